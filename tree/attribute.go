@@ -2,14 +2,15 @@ package tree
 
 import "pane/api"
 
+// The kinds of nodes.
 const (
-	kindRow = iota
-	kindCol
-	kindStack
-	kindBox
-	kindScroll
-	kindText
-	kindGap
+	KindRow = iota
+	KindCol
+	KindStack
+	KindBox
+	KindScroll
+	KindText
+	KindGap
 )
 
 // kindNames has the words of the kinds, each at its kind's number.
@@ -26,10 +27,10 @@ func kindOf(word string) (int, bool) {
 
 // Which kinds have an attribute: a bit for each of them.
 const (
-	ofBox    = 1 << kindBox
-	ofText   = 1 << kindText
-	ofRowCol = 1<<kindRow | 1<<kindCol
-	ofAll    = ofRowCol | 1<<kindStack | ofBox | 1<<kindScroll | ofText | 1<<kindGap
+	ofBox    = 1 << KindBox
+	ofText   = 1 << KindText
+	ofRowCol = 1<<KindRow | 1<<KindCol
+	ofAll    = ofRowCol | 1<<KindStack | ofBox | 1<<KindScroll | ofText | 1<<KindGap
 )
 
 // attribute is a row of the table of attributes.

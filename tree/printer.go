@@ -18,9 +18,9 @@ func (p *printer) printNode(i int) {
 	p.out.WriteString(kindNames[node.Kind])
 	p.printAttributes(node)
 	switch node.Kind {
-	case kindText:
+	case KindText:
 		p.printString(node.Text)
-	case kindGap: // has no body
+	case KindGap: // has no body
 	default:
 		p.printKids(node.Kids)
 	}

@@ -56,10 +56,10 @@ func (r *reader) readNode(up, depth int) {
 		r.readAttributes(&r.nodes[i])
 	}
 	switch kind {
-	case kindText:
+	case KindText:
 		r.nodes[i].Text = r.readString()
-	case kindGap: // has no body
-	case kindBox, kindScroll:
+	case KindGap: // has no body
+	case KindBox, KindScroll:
 		r.expect('[')
 		r.readNode(i, depth+1)
 		r.expect(']')
